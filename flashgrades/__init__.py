@@ -1,0 +1,1 @@
+"""Multi-stage flash: choosing flash grades."""
