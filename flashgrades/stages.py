@@ -1,12 +1,19 @@
 """The calls on one instance: each is read, carried out and answered in numbers."""
 
-from flashgrades.curves import are_stages, best_stages_over, is_curve, power_over
+from flashgrades.curves import are_stages, best_count_over, best_move_over, best_power_over
+from flashgrades.curves import best_stages_over, is_curve, power_over, stage_set_count
 
 NO_CURVE = -11
 NOT_THERE = -2
 OUT_OF_RANGE = -22
+STAGE_THERE = -17
+NO_BETTER_MOVE = -33
+TOO_MANY_GRADES = -75
 
 MOST_STAGES = 5
+MOST_PERCENT = 100
+# best_stage_count alone has this limit, in the place of MOST_STAGES.
+MOST_GRADES_TO_COUNT = 8
 
 # The one call that needs no curve.
 SET_CURVE = 0
@@ -28,6 +35,9 @@ class Instance:
 
     def allows_count(self, count):
         return count <= MOST_STAGES and count <= len(self.flows)
+
+    def stages_power(self):
+        return power_over(self.flows, self.stages)
 
 
 # Each operation takes the instance and the numbers of its call, and answers a
@@ -88,11 +98,11 @@ def set_stages(instance, numbers):
     if not are_stages(numbers, len(instance.flows)):
         return [OUT_OF_RANGE]
     instance.stages = list(numbers)
-    return [power_over(instance.flows, instance.stages)]
+    return [instance.stages_power()]
 
 
 def power(instance, numbers):
-    return [power_over(instance.flows, instance.stages)]
+    return [instance.stages_power()]
 
 
 def power_of(instance, numbers):
@@ -108,6 +118,80 @@ def best_stages(instance, numbers):
     return best_stages_over(instance.flows, count)
 
 
+def apply_best_stages(instance, numbers):
+    count = numbers[0]
+    if not instance.allows_count(count):
+        return [OUT_OF_RANGE]
+    instance.stages = best_stages_over(instance.flows, count)[1:]
+    return [instance.stages_power()]
+
+
+def marginal_power(instance, numbers):
+    count = numbers[0]
+    if count == 0 or not instance.allows_count(count):
+        return [OUT_OF_RANGE]
+    return [best_power_over(instance.flows, count) - best_power_over(instance.flows, count - 1)]
+
+
+def count_stage_sets(instance, numbers):
+    count = numbers[0]
+    if not instance.allows_count(count):
+        return [OUT_OF_RANGE]
+    return [stage_set_count(len(instance.flows), count)]
+
+
+def best_stage_count(instance, numbers):
+    if len(instance.flows) > MOST_GRADES_TO_COUNT:
+        return [TOO_MANY_GRADES]
+    return best_count_over(instance.flows, numbers[0])
+
+
+def reaches_share(instance, numbers):
+    count = numbers[0]
+    percent = numbers[1]
+    if not instance.allows_count(count) or percent > MOST_PERCENT:
+        return [OUT_OF_RANGE]
+    if 100 * best_power_over(instance.flows, count) >= percent * sum(instance.flows):
+        return [1]
+    return [0]
+
+
+def improve_stage(instance, numbers):
+    move = best_move_over(instance.flows, instance.stages)
+    if not move:
+        return [NO_BETTER_MOVE]
+    moved = list(instance.stages)
+    moved[move[1]] = move[2]
+    instance.stages = moved
+    return move
+
+
+def add_stage(instance, numbers):
+    grade = numbers[0]
+    if not instance.has_grade(grade):
+        return [NOT_THERE]
+    if grade in instance.stages:
+        return [STAGE_THERE]
+    instance.stages = sorted(instance.stages + [grade])
+    return [instance.stages_power()]
+
+
+def remove_stage(instance, numbers):
+    index = numbers[0]
+    if index >= len(instance.stages):
+        return [NOT_THERE]
+    instance.stages = instance.stages[:index] + instance.stages[index + 1:]
+    return [instance.stages_power()]
+
+
+def unused_power(instance, numbers):
+    return [sum(instance.flows) - instance.stages_power()]
+
+
+def summary(instance, numbers):
+    return [len(instance.flows)] + instance.flows + [len(instance.stages)] + instance.stages
+
+
 OPERATIONS = {
     0: set_curve,
     1: set_flow,
@@ -119,13 +203,22 @@ OPERATIONS = {
     7: power,
     8: power_of,
     9: best_stages,
+    10: apply_best_stages,
+    11: marginal_power,
+    12: count_stage_sets,
+    13: best_stage_count,
+    14: reaches_share,
+    15: improve_stage,
+    16: add_stage,
+    17: remove_stage,
+    18: unused_power,
+    19: summary,
 }
 
 # The calls whose numbers are one list, told behind how many it has.
 LIST_CALLS = (0, 6, 8)
 
-# How many numbers each other call has. Calls 10 to 19 are read and refused for
-# want of a curve like the others; they have no operation yet.
+# How many numbers each other call has.
 NUMBER_COUNTS = {
     1: 2, 2: 1, 3: 1, 4: 0, 5: 1, 7: 0, 9: 1,
     10: 1, 11: 1, 12: 1, 13: 1, 14: 2, 15: 0, 16: 1, 17: 1, 18: 0, 19: 0,

@@ -1,4 +1,6 @@
-"""A session on a new instance, told by the calls' names."""
+"""A session on a new instance, told by the calls' names; a plain search to compare with."""
+
+import itertools
 
 from flashgrades.stages import answers
 
@@ -54,6 +56,52 @@ def ask_last(*calls):
 
 
 def state_questions(grade_count):
-    """Calls that show the curve and the power of the current stages."""
+    """Calls that show the curve and the current stages, one in the way of another."""
     flows = [("flow_at", grade) for grade in range(1, grade_count + 2)]
-    return [("total_flow",), ("power",)] + flows
+    return [("summary",), ("total_flow",), ("power",), ("unused_power",)] + flows
+
+
+def stage_sets(grade_count, count):
+    """All stage sets with count stages, the lexicographically first one first."""
+    return [list(grades) for grades in itertools.combinations(range(1, grade_count + 1), count)]
+
+
+def power_by_grade(flows, grades):
+    """The power, summed grade by grade: each has the flow of the next stage above or at it."""
+    total = 0
+    for grade in range(1, len(flows) + 1):
+        above = [stage for stage in grades if stage >= grade]
+        if above:
+            total += flows[min(above) - 1]
+    return total
+
+
+def searched(flows, count):
+    """The best stages: the power, then the grades, by a search over all sets."""
+    best = None
+    for grades in stage_sets(len(flows), count):
+        power = power_by_grade(flows, grades)
+        if best is None or power > best[0]:
+            best = [power] + grades
+    return best
+
+
+def searched_moves(flows, grades):
+    """All moves of one stage: power, index, grade; lower index, then lower grade first."""
+    moves = []
+    for index in range(len(grades)):
+        for grade in range(1, len(flows) + 1):
+            moved = grades[:index] + [grade] + grades[index + 1:]
+            ascending = all(low < high for low, high in zip(moved, moved[1:]))
+            if grade != grades[index] and ascending:
+                moves.append([power_by_grade(flows, moved), index, grade])
+    return moves
+
+
+def searched_improvement(flows, grades):
+    """What improve_stage answers, by a search over all moves."""
+    moves = searched_moves(flows, grades)
+    most = max([power_by_grade(flows, grades)] + [move[0] for move in moves])
+    if most == power_by_grade(flows, grades):
+        return [-33]
+    return [move for move in moves if move[0] == most][0]

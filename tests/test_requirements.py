@@ -1,9 +1,9 @@
-"""best_stages against a plain search, and requirements 1 and 3."""
+"""Best stages and best moves against a plain search, and requirements 1 to 4."""
 
 import itertools
 import unittest
 
-from tests.session import ask
+from tests.session import LARGEST, ask, power_by_grade, searched, searched_improvement, searched_moves, stage_sets
 
 # Requests are kept to the 200 calls that the document allows.
 MOST_CALLS = 200
@@ -28,31 +28,6 @@ def large_curves():
     yield [1000 // (step + 1) for step in range(16)]
     yield [900] * 5 + [300] * 6 + [77] * 5
     yield [1000, 1000, 513, 512, 511, 300, 299, 299, 150, 149, 80, 80, 79, 3, 1, 0]
-
-
-def stage_sets(grade_count, count):
-    """All stage sets with count stages, the lexicographically first one first."""
-    return [list(grades) for grades in itertools.combinations(range(1, grade_count + 1), count)]
-
-
-def power_by_grade(flows, grades):
-    """The power, summed grade by grade: each has the flow of the next stage above or at it."""
-    total = 0
-    for grade in range(1, len(flows) + 1):
-        above = [stage for stage in grades if stage >= grade]
-        if above:
-            total += flows[min(above) - 1]
-    return total
-
-
-def searched(flows, count):
-    """The best stages: the power, then the grades, by a search over all sets."""
-    best = None
-    for grades in stage_sets(len(flows), count):
-        power = power_by_grade(flows, grades)
-        if best is None or power > best[0]:
-            best = [power] + grades
-    return best
 
 
 def counts(flows):
@@ -81,6 +56,64 @@ class PlainSearch(unittest.TestCase):
                     tied += 1
         self.assertGreater(tied, 100)
 
+    def test_apply_best_stages(self):
+        for flows in [*small_curves(), *large_curves()]:
+            for count in counts(flows):
+                best = searched(flows, count)
+                asked = ask(("set_curve", flows), ("apply_best_stages", count), ("summary",))
+                self.assertEqual(asked[1:], [best[:1], [len(flows)] + flows + [count] + best[1:]])
+
+    def test_reaches_share(self):
+        for flows in [*small_curves(), *large_curves()]:
+            for count in counts(flows):
+                shares = [("reaches_share", count, percent) for percent in range(101)]
+                reached = 100 * searched(flows, count)[0]
+                results = [[int(reached >= percent * sum(flows))] for percent in range(101)]
+                self.assertEqual(ask(("set_curve", flows), *shares)[1:], results, (flows, count))
+
+    def test_best_stage_count(self):
+        costs = [*range(20), 1000, LARGEST]
+        for flows in [*small_curves(), *[flows[:8] for flows in large_curves()]]:
+            powers = [searched(flows, count)[0] for count in range(len(flows) + 1)]
+            asked = ask(("set_curve", flows), *[("best_stage_count", cost) for cost in costs])
+            for cost, answer in zip(costs, asked[1:]):
+                gains = [power - cost * count for count, power in enumerate(powers)]
+                count = gains.index(max(gains))
+                self.assertEqual(answer, [count, powers[count]], (flows, cost))
+
+
+class BestMoves(unittest.TestCase):
+    def check(self, flows, grades):
+        improved = searched_improvement(flows, grades)
+        stages = list(grades)
+        if improved != [-33]:
+            stages[improved[1]] = improved[2]
+        asked = ask(("set_curve", flows), ("set_stages", grades), ("improve_stage",), ("summary",))
+        self.assertEqual(asked[2:], [improved, [len(flows)] + flows + [len(stages)] + stages], grades)
+
+    def test_every_stage_set_of_small_curves(self):
+        for flows in small_curves():
+            for count in range(len(flows) + 1):
+                for grades in stage_sets(len(flows), count):
+                    self.check(flows, grades)
+
+    def test_sixteen_grades(self):
+        for flows in large_curves():
+            for grades in ([1], [16], [1, 2], [1, 16], [15, 16], [2, 9, 10], [1, 2, 3, 4, 5], list(range(2, 17))):
+                self.check(flows, grades)
+
+    def test_tied_moves_are_among_them(self):
+        tied_indexes = 0
+        tied_grades = 0
+        for flows in small_curves():
+            for grades in stage_sets(len(flows), 2):
+                improved = searched_improvement(flows, grades)
+                tied = [move for move in searched_moves(flows, grades) if move[0] == improved[0]]
+                tied_indexes += len({index for power, index, grade in tied}) > 1
+                tied_grades += len({grade for power, index, grade in tied if index == tied[0][1]}) > 1
+        self.assertGreater(tied_indexes, 50)
+        self.assertGreater(tied_grades, 50)
+
 
 class Requirements(unittest.TestCase):
     def all_powers(self, flows, stages):
@@ -96,6 +129,15 @@ class Requirements(unittest.TestCase):
             for count in counts(flows):
                 powers = self.all_powers(flows, stage_sets(len(flows), count))
                 self.assertEqual(max(powers), best[count][0], (flows, count))
+
+    def test_requirement_2(self):
+        for flows in [*small_curves(), *large_curves()]:
+            best = [searched(flows, count)[0] for count in counts(flows)]
+            asked = ask(("set_curve", flows), *[("marginal_power", count) for count in counts(flows)[1:]])
+            marginal = [difference for [difference] in asked[1:]]
+            self.assertEqual(marginal, [high - low for low, high in zip(best, best[1:])], flows)
+            self.assertEqual(marginal, sorted(marginal, reverse=True), flows)
+            self.assertGreaterEqual(min(marginal), 0, flows)
 
     def test_requirement_3(self):
         for flows in small_curves():
@@ -116,6 +158,36 @@ class Requirements(unittest.TestCase):
         for change in (("set_flow", 2, 3), ("reduce_flows", 4), ("truncate", 3)):
             asked = ask(("set_curve", [9, 7, 3, 1]), ("truncate", 3), change, ("power_of", [1, 2, 3]), ("total_flow",))
             self.assertEqual(asked[-2], asked[-1])
+
+    def test_requirement_3_for_unused_power(self):
+        for flows in small_curves():
+            sets = [grades for count in range(len(flows) + 1) for grades in stage_sets(len(flows), count)]
+            for start in range(0, len(sets), 99):
+                part = sets[start:start + 99]
+                calls = [call for grades in part for call in (("set_stages", grades), ("unused_power",))]
+                asked = ask(("set_curve", flows), *calls)[1:]
+                for grades, answer in zip(part, asked[1::2]):
+                    self.assertEqual(answer, [sum(flows) - power_by_grade(flows, grades)], (flows, grades))
+                    self.assertGreaterEqual(answer[0], 0)
+
+    def test_requirement_4(self):
+        for flows in small_curves():
+            every = range(1, len(flows) + 1)
+            for count in range(len(flows)):
+                for grades in stage_sets(len(flows), count):
+                    added = [grade for grade in every if grade not in grades]
+                    calls = [call for grade in added for call in (("set_stages", grades), ("add_stage", grade))]
+                    asked = ask(("set_curve", flows), *calls)[1:]
+                    for grade, before, after in zip(added, asked[::2], asked[1::2]):
+                        self.assertEqual(after, [power_by_grade(flows, sorted(grades + [grade]))])
+                        self.assertGreaterEqual(after, before, (flows, grades, grade))
+
+    def test_requirement_4_for_sixteen_grades(self):
+        for flows in large_curves():
+            for order in (range(1, 17), range(16, 0, -1), (8, 1, 16, 4, 12, 2, 14, 6, 10, 3, 15, 5, 11, 7, 13, 9)):
+                powers = ask(("set_curve", flows), *[("add_stage", grade) for grade in order])[1:]
+                self.assertEqual(powers, sorted(powers))
+                self.assertEqual(powers[-1], [sum(flows)])
 
 
 class Power(unittest.TestCase):
